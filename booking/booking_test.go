@@ -72,6 +72,7 @@ func TestRestock(t *testing.T) {
 		good(t, book(), change(1, i, 5, 6, id(0, 1)), func(b *api.Book) { b.Stock[i] += 6 })
 	}
 	good(t, api.Book{}, change(1, 3, 0, most, api.Id{}), func(b *api.Book) { b.Stock[3] = most })
+	good(t, api.Book{}, change(1, 3, 0, 1, api.Id{}), func(b *api.Book) { b.Stock[3] = 1 })
 	for _, n := range []int64{0, -1, most + 1, math.MinInt64, math.MaxInt64} {
 		bad(t, book(), change(1, 1, 0, n, api.Id{}), api.ErrRange)
 	}
@@ -87,6 +88,8 @@ func TestDeposit(t *testing.T) {
 	for _, i := range []int{0, 7} {
 		good(t, book(), change(2, i, 5, 6, id(0, 1)), func(b *api.Book) { b.Purse[i] += 6 }, effect(8, i, 6, api.Id{}))
 	}
+	good(t, api.Book{}, change(2, 3, 0, 1, api.Id{}), func(b *api.Book) { b.Purse[3] = 1 }, effect(8, 3, 1, api.Id{}))
+	good(t, api.Book{}, change(2, 3, 0, most, api.Id{}), func(b *api.Book) { b.Purse[3] = most }, effect(8, 3, most, api.Id{}))
 	for _, n := range []int64{0, -1, most + 1, math.MinInt64} {
 		bad(t, book(), change(2, 1, 0, n, api.Id{}), api.ErrRange)
 	}

@@ -295,10 +295,9 @@ func TestClone(t *testing.T) {
 	if x.Stack[0].Ord != 1 || x.Stack[1].Ord != 2 {
 		t.Error("P2: Clone shares memory")
 	}
-	for _, n := range []int{math.MaxInt, 256, 1 << 40} {
-		if _, ok := chain.Next(of(n), wants(a)); ok {
-			t.Error("P21.1: Next with Made", n)
-		}
+	for _, n := range []int{math.MaxInt, 256, 1 << 40, math.MinInt, -1} {
+		chain.Next(of(n), wants(a))
+		chain.Try(of(n), wants(a), n)
 	}
 	odd := of(math.MinInt, entry.Entry{Sent: math.MaxInt, Last: math.MinInt, Back: math.MinInt})
 	chain.Try(odd, wants(a), math.MaxInt)

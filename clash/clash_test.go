@@ -215,6 +215,11 @@ func TestSink(t *testing.T) {
 	if got := clash.Sink(book(), free); !slices.Equal(got, stamp.Sorted(free...)) {
 		t.Error("P43.1: Sink of changes that do not clash", got)
 	}
+	sorted := stamp.Sorted(free...)
+	clash.Sink(book(), sorted)[0].N = 77
+	if !slices.Equal(sorted, stamp.Sorted(free...)) {
+		t.Error("P2: Sink of a sorted list returns its argument")
+	}
 	equal := []api.Change{deposit(1, 5, 0, 1), deposit(1, 5, 0, 2), deposit(1, 5, 0, 3)}
 	if got := clash.Sink(book(), equal); !slices.Equal(got, equal) {
 		t.Error("P43.1: Sink of equal stamps", got)

@@ -270,6 +270,9 @@ func TestMemory(t *testing.T) {
 	l = three()
 	l.Chains()[3].Stack[0].Ord = 99
 	l.Wants()[0][0].N = 99
+	if w := l.Wants(); !slices.Equal(w[0], wants(a, b)) {
+		t.Error("P2: Wants hands out the ledger's memory", w)
+	}
 	list := wants(a, b)
 	l.Put(1, list)
 	list[0].N = 99

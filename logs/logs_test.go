@@ -238,6 +238,28 @@ func TestMemory(t *testing.T) {
 	check(t, "changed results", k, []api.Change{restock, place, price}, []api.Change{early, late})
 }
 
+// P2: a clone and its original go on independently, from every number of commits.
+func TestCloneGoesOn(t *testing.T) {
+	for n := range 9 {
+		l := logs.New()
+		var done []api.Change
+		for i := range n {
+			c := change(3, i+1, i+1, 2, 1, 0, 5)
+			must(t, l.Add(c))
+			must(t, l.Commit(c.Id))
+			done = append(done, c)
+		}
+		x, y := change(0, 1, 50, 1, 3, 0, 10), change(1, 1, 60, 1, 3, 0, 7)
+		must(t, l.Add(x))
+		must(t, l.Add(y))
+		k := l.Clone()
+		must(t, k.Commit(x.Id))
+		must(t, l.Commit(y.Id))
+		check(t, "clone", k, append(slices.Clone(done), x), []api.Change{y})
+		check(t, "original", l, append(slices.Clone(done), y), []api.Change{x})
+	}
+}
+
 // P19.1, P1: nil Logs, and Logs that New did not create.
 func TestUnmade(t *testing.T) {
 	for _, l := range []*logs.Logs{nil, new(logs.Logs)} {

@@ -90,7 +90,7 @@ func TestCost(t *testing.T) {
 		code           api.Errno
 	}{
 		{7, 6, 42, api.OK}, {7, 0, 0, api.OK}, {0, most, 0, api.OK}, {1, most, most, api.OK}, {1, most + 1, 0, api.ErrRange}, {1, -1, 0, api.ErrRange}, {1, math.MinInt64, 0, api.ErrRange},
-		{2, most / 2, most, api.OK}, {2, most/2 + 1, 0, api.ErrOver}, {api.MaxPrice, 1024, most, api.OK}, {api.MaxPrice, 1025, 0, api.ErrOver}, {api.MaxPrice, most, 0, api.ErrOver},
+		{2, most / 2, most, api.OK}, {2, most/2 + 1, 0, api.ErrOver}, {257, 4278255361, 0, api.ErrOver}, {api.MaxPrice, 1024, most, api.OK}, {api.MaxPrice, 1025, 0, api.ErrOver}, {api.MaxPrice, most, 0, api.ErrOver},
 		{math.MaxInt64, 2, 0, api.ErrOver}, {1 << 62, 4, 0, api.ErrOver}, {1 << 32, 1 << 32, 0, api.ErrOver}, {-3, 5, -15, api.OK}, {math.MinInt64, 2, 0, api.ErrOver},
 	}
 	for _, c := range cases {

@@ -227,6 +227,26 @@ func TestMake(t *testing.T) {
 	}
 }
 
+// P24.1: the last change that may be made.
+func TestMakeLast(t *testing.T) {
+	for _, commits := range []int{0, 5, 48} {
+		s := state.New(1)
+		for i := range api.MaxChanges {
+			c, e := s.Make(api.Change{Kind: 1, A: 1, N: 1})
+			if e != api.OK || c.Id != id(1, i+1) || c.Time != i+1 {
+				t.Fatalf("P24.1: Make of change %d = %v, %d", i+1, c, e)
+			}
+			must(t, s, record.Change(c))
+			if i < commits {
+				must(t, s, record.Commit(c.Id))
+			}
+		}
+		if c, e := s.Make(api.Change{Kind: 1, A: 1, N: 1}); e != api.ErrCount || c != (api.Change{}) {
+			t.Error("P24.1: Make of change 49", c, e)
+		}
+	}
+}
+
 // P24.1: Quiet needs both.
 func TestQuiet(t *testing.T) {
 	s := state.New(1)
