@@ -40,7 +40,10 @@ func back(e entry.Entry, n, last int) entry.Entry {
 	return e
 }
 
-func of(made int, l ...entry.Entry) chain.Chain { return chain.Chain{Id: self, Made: made, Stack: l} }
+// of returns a chain whose stack has space behind it.
+func of(made int, l ...entry.Entry) chain.Chain {
+	return chain.Chain{Id: self, Made: made, Stack: append(make([]entry.Entry, 0, len(l)+3), l...)}
+}
 
 func same(x, y chain.Chain) bool {
 	return x.Id == y.Id && x.Made == y.Made && slices.Equal(x.Stack, y.Stack)

@@ -357,6 +357,8 @@ func TestArm(t *testing.T) {
 	fine(t, "Sync after a restart", x.Sync())
 	x.Arm(31)
 	submit(t, x, restock(1))
+	x.Stored()
+	x.State()
 	if x.Sync() != api.ErrDown || x.Up() {
 		t.Error("P28.2: Arm does nothing")
 	}
