@@ -160,11 +160,6 @@ func TestAllowed(t *testing.T) {
 	if model.Allowed([]api.Request{request(0, 1, 1, false, c)}, nil) || model.Allowed(l, changes()[:6]) {
 		t.Error("P34.1: deferred effects without changes are Allowed")
 	}
-	undo := l[8]
-	undo.Key.Undo, undo.What.N = true, 1
-	if model.Allowed([]api.Request{undo}, changes()) {
-		t.Error("P34.1: the undoing of another deferred effect is Allowed")
-	}
 }
 
 // P2: arguments stay as they are.

@@ -271,7 +271,7 @@ func TestSwap(t *testing.T) {
 	}
 	check(t, "Swap", l, 1, rec(30, 5))
 	all := l.Disk().All()
-	if all[0] != 7 || !bytes.Equal(all[32:42], frames(rec(3, 1))) || !bytes.Equal(all[96:133], frames(rec(30, 5))) || !bytes.Equal(all[133:], make([]byte, 27)) {
+	if all[0]&1 != 1 || !bytes.Equal(all[32:42], frames(rec(3, 1))) || !bytes.Equal(all[96:133], frames(rec(30, 5))) || !bytes.Equal(all[133:], make([]byte, 27)) {
 		t.Error("P12.1: Swap leaves", all)
 	}
 	if got := l.Disk().Written() - before; got != 160 {
@@ -282,7 +282,7 @@ func TestSwap(t *testing.T) {
 	if again, ok := wal.Open(l.Disk()); !ok || !equal(again.Records(), [][]byte{rec(30, 5), rec(2, 7)}) {
 		t.Error("P12.1: Sync after Swap goes to the wrong half")
 	}
-	if e := l.Swap(rec(1, 1)); e != api.OK || l.Disk().All()[0] != 6 {
+	if e := l.Swap(rec(1, 1)); e != api.OK || l.Disk().All()[0]&1 != 0 {
 		t.Error("P12.1: a second Swap", e)
 	}
 	if again, _ := wal.Open(l.Disk()); !equal(again.Records(), [][]byte{rec(1, 1)}) || again.Room() != 56 {
