@@ -42,14 +42,14 @@ func (v *between) apply(m msg.Msg) api.Answer {
 	return api.Answer{N: v.put(msg.Msg{Kind: kindAnswer, From: api.Gateway, To: m.From, Key: m.Key})}
 }
 
-func (v *between) drop(i int) api.Answer {
+func (v *between) dropMessage(i int) api.Answer {
 	if _, ok := v.wire.Take(i); !ok {
 		return fail(api.ErrNone)
 	}
 	return api.Answer{}
 }
 
-func (v *between) copy(i int) api.Answer {
+func (v *between) copyMessage(i int) api.Answer {
 	if i >= v.wire.Len() {
 		return fail(api.ErrNone)
 	}
@@ -59,7 +59,7 @@ func (v *between) copy(i int) api.Answer {
 	return api.Answer{}
 }
 
-func (v *between) flip(i int, bit int) api.Answer {
+func (v *between) flipMessage(i int, bit int) api.Answer {
 	if i >= v.wire.Len() {
 		return fail(api.ErrNone)
 	}

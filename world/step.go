@@ -61,11 +61,11 @@ func (w *World) Step(x api.Step) api.Answer {
 	case stepDeliver:
 		return w.deliver(x.I)
 	case stepDrop:
-		return w.drop(x.I)
+		return w.dropMessage(x.I)
 	case stepCopy:
-		return w.copy(x.I)
+		return w.copyMessage(x.I)
 	case stepFlip:
-		return w.flip(x.I, x.N)
+		return w.flipMessage(x.I, x.N)
 	case stepRefuse:
 		return w.refuse(x.N)
 	case stepCrash:
