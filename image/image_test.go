@@ -3,6 +3,7 @@ package image_test
 import (
 	"bytes"
 	"fmt"
+	"math"
 	"testing"
 
 	"countermand/api"
@@ -134,9 +135,28 @@ func TestGetReplica(t *testing.T) {
 	}
 }
 
+// P25.1: there is no state of a replica that there is not, whatever the image.
+func TestGetNoReplica(t *testing.T) {
+	l := []*state.State{state.New(0), state.New(3), folded(t, 0, 1), folded(t, 3, 2)}
+	for n := range len(records()) + 1 {
+		l = append(l, folded(t, 1, n))
+	}
+	for _, s := range l {
+		b := image.Put(s)
+		if got, e := image.Get(s.Replica(), b); e != api.OK || !image.Same(got, s) {
+			t.Errorf("P25.1: Get(%d, %v): %d", s.Replica(), b, e)
+		}
+		for _, r := range []int{math.MinInt, -256, -4, -1, api.MaxReplicas, api.MaxReplicas + 1, 7, 256, 1 << 32, math.MaxInt} {
+			if got, e := image.Get(r, b); e != api.ErrSyntax || got != nil {
+				t.Errorf("P25.1: Get(%d, %v): %d, and a state of replica %d", r, b, e, got.Replica())
+			}
+		}
+	}
+}
+
 func reject(t *testing.T, name string, b []byte) {
 	t.Helper()
-	for r := range 4 {
+	for r := -1; r <= 4; r++ {
 		if s, e := image.Get(r, b); e != api.ErrSyntax || s != nil {
 			t.Errorf("P25.1: Get(%d) of %s: %d", r, name, e)
 		}

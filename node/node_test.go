@@ -364,6 +364,36 @@ func TestArm(t *testing.T) {
 	}
 }
 
+// P28.2, P28.3: an image is read again, and records follow it, for every r that New is given.
+func TestPackReplicas(t *testing.T) {
+	for r, want := range map[int]int{math.MinInt: 0, -1: 0, 0: 0, 1: 1, 2: 2, 3: 3, 4: 3, 7: 3, math.MaxInt: 3} {
+		x := node.New(config(20), r)
+		other := api.Change{Id: id((want+1)%4, 1), Time: 1, Kind: 1, A: 1, N: 5}
+		l := []record.Record{record.Change(submit(t, x, restock(20))), record.Change(submit(t, x, place(2))), record.Change(other)}
+		if k, e := x.Take(l[2]); k != 1 || e != api.OK {
+			t.Fatalf("P28.1: Take on a node of %d: %d", r, e)
+		}
+		for range 2 {
+			fine(t, "Pack", x.Pack())
+			if !is(x.State(), want, l...) || !is(x.Stored(), want, l...) {
+				t.Errorf("P28.2: the state of a node of %d after Pack", r)
+			}
+			x.Crash()
+			fine(t, "Restart after Pack", x.Restart())
+			if !is(x.State(), want, l...) {
+				t.Errorf("P28.3: the state of a node of %d after a restart", r)
+			}
+			l = append(l, record.Change(submit(t, x, place(1))))
+			fine(t, "Sync after Pack", x.Sync())
+			x.Crash()
+			fine(t, "Restart after Sync", x.Restart())
+			if !is(x.State(), want, l...) || !is(x.Stored(), want, l...) {
+				t.Errorf("P28.3: the records of a node of %d after an image", r)
+			}
+		}
+	}
+}
+
 // P28.2: Pack makes an image the only record; pending records become durable with it.
 func TestPack(t *testing.T) {
 	x := node.New(config(20), 1)
